@@ -1,0 +1,1 @@
+"""Hidden mines, played and weighed."""
