@@ -18,6 +18,7 @@ class Board:
         self.dealt = False
         self.lost = False
         self.won = False
+        self.weights = None
 
 
 def can_be(width, height, mines):
@@ -36,8 +37,18 @@ def cell_at(board, x, y):
     return y * board.width + x
 
 
+def show(board, cell, number):
+    board.shown[cell] = number
+    # What was weighed before is another board's now.
+    board.weights = None
+
+
 def is_dark(board, cell):
     return board.shown[cell] == DARK
+
+
+def dark_cells(board):
+    return [cell for cell in range(len(board.shown)) if is_dark(board, cell)]
 
 
 def dark_count(board):

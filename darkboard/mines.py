@@ -1,7 +1,9 @@
 """A row of calls on one board, and the row of what they answer."""
 
 from darkboard.board import Board, can_be, cell_at, has_cell
-from darkboard.play import chord, deal, flag, open_cell
+from darkboard.look import view
+from darkboard.odds import best, chance_of, layouts, sure
+from darkboard.play import chord, deal, flag, open_cell, set_cell
 
 BEGIN = 0
 BOARD = 1
@@ -9,6 +11,10 @@ DEAL = 2
 OPEN = 3
 FLAG = 4
 CHORD = 5
+SET = 6
+VIEW = 7
+LAYOUTS = 8
+SURE = 10
 
 # By a call's number: how many numbers it hands over, and where among them its
 # cell's x stands, with y right behind it.
@@ -18,10 +24,6 @@ CELL_PLACE = (None, None, 1, 0, 0, 0, 0, None, None, 0, None, None)
 DONE = 0
 OUT_OF_RANGE = -1
 NO_BOARD = -4
-
-
-class NotBuilt(Exception):
-    pass
 
 
 class Line:
@@ -52,7 +54,7 @@ def answer_call(line, call, numbers):
     if line.board is None:
         return [NO_BOARD]
     if CELL_PLACE[call] is None:
-        raise NotBuilt(f"call {call}")
+        return answer_of_board(line.board, call, numbers)
     x = numbers[CELL_PLACE[call]]
     y = numbers[CELL_PLACE[call] + 1]
     if not has_cell(line.board, x, y):
@@ -67,6 +69,16 @@ def lay_board(line, width, height, mines):
     return DONE
 
 
+def answer_of_board(board, call, numbers):
+    if call == VIEW:
+        return view(board, numbers[0])
+    if call == LAYOUTS:
+        return layouts(board)
+    if call == SURE:
+        return sure(board)
+    return best(board)
+
+
 def answer_of_cell(board, call, numbers, cell):
     if call == DEAL:
         return [deal(board, numbers[0], cell)]
@@ -76,4 +88,6 @@ def answer_of_cell(board, call, numbers, cell):
         return [flag(board, cell)]
     if call == CHORD:
         return [chord(board, cell)]
-    raise NotBuilt(f"call {call}")
+    if call == SET:
+        return [set_cell(board, cell, numbers[2])]
+    return chance_of(board, cell)

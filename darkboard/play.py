@@ -1,8 +1,9 @@
-"""A game's calls on a board: each gives back the number that it answers."""
+"""The calls that set up and play a board: each gives back the number that it answers."""
 
-from darkboard.board import dark_count, in_play, is_dark, touching
+from darkboard.board import DARK, dark_count, in_play, is_dark, show, touching
 from darkboard.chance import Chance
 
+DONE = 0
 NOTHING = 0
 GOES_ON = 1
 LOST = 2
@@ -10,6 +11,13 @@ WON = 3
 
 REFUSED = -1
 NOT_IN_PLAY = -2
+
+
+def set_cell(board, cell, number):
+    if number < 0 or number > DARK or board.dealt:
+        return REFUSED
+    show(board, cell, number)
+    return DONE
 
 
 def deal(board, seed, cell):
@@ -82,6 +90,6 @@ def spread(board, waiting):
         # A cell that touches several others may wait more than once.
         if is_dark(board, cell):
             near = touching(board, cell)
-            board.shown[cell] = len([other for other in near if board.mined[other]])
+            show(board, cell, len([other for other in near if board.mined[other]]))
             if board.shown[cell] == 0:
                 waiting.extend([other for other in near if may_be_uncovered(board, other)])

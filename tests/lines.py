@@ -70,11 +70,21 @@ def split(numbers):
     return parts
 
 
-def replies(*calls):
-    """The first number that each call answers."""
+def told(*calls):
+    """All the numbers that each call answers."""
     parts = split(answers(line_of(calls)))
     assert len(parts) == len(calls), (parts, calls)
-    return [part[0] for part in parts]
+    return parts
+
+
+def last_told(*calls):
+    """All the numbers that the last call answers."""
+    return told(*calls)[-1]
+
+
+def replies(*calls):
+    """The first number that each call answers."""
+    return [part[0] for part in told(*calls)]
 
 
 def last(*calls):
@@ -101,3 +111,54 @@ def seen(width, height, *calls):
     """What is shown (#), dark (.) or flagged (F) behind these calls, told by what flagging answers."""
     flags = replies(*calls, *[flag(*cell) for cell in cells(width, height)])[len(calls):]
     return rows([{-1: "#", 1: ".", 0: "F"}[answer] for answer in flags], width)
+
+
+def set_up(mines, *picture):
+    """A board with these rows set: a digit is shown, a point dark."""
+    sets = [set_(x, y, int(sign)) for y, row in enumerate(picture) for x, sign in enumerate(row) if sign != "."]
+    return [begin(), board(len(picture[0]), len(picture), mines), *sets]
+
+
+def viewed(width, *calls):
+    """What view tells behind these calls: numbers that are shown, dark (.), flagged (F), mined (*)."""
+    answer = last_told(*calls, view(256))
+    assert len(answer) == answer[0] + 1, answer
+    return rows(["012345678.F*"[number] for number in answer[1:]], width)
+
+
+def number_of(bytes_):
+    assert len(bytes_) == 32 and all(0 <= byte <= 255 for byte in bytes_), bytes_
+    return int.from_bytes(bytes(bytes_), "little")
+
+
+def count_of(*calls):
+    """How many layouts there are behind these calls."""
+    answer = last_told(*calls, layouts())
+    assert answer[0] == 0 and len(answer) == 33, answer
+    return number_of(answer[1:])
+
+
+def chance_at(x, y, *calls):
+    """The two numbers of the fraction that chance tells of a cell behind these calls."""
+    answer = last_told(*calls, chance(x, y))
+    assert answer[0] == 0 and len(answer) == 65, answer
+    return number_of(answer[1:33]), number_of(answer[33:])
+
+
+def cells_of(bytes_):
+    number = number_of(bytes_)
+    return [cell for cell in range(256) if number // 2 ** cell % 2 == 1]
+
+
+def sure_of(*calls):
+    """What sure tells behind these calls: how many, the cells mined in none, the cells mined in all."""
+    answer = last_told(*calls, sure())
+    assert answer[0] >= 0 and len(answer) == 65, answer
+    return answer[0], cells_of(answer[1:33]), cells_of(answer[33:])
+
+
+def best_of(*calls):
+    """The cell that best tells behind these calls."""
+    answer = last_told(*calls, best())
+    assert answer[0] == 0 and len(answer) == 3, answer
+    return tuple(answer[1:])

@@ -2,9 +2,7 @@
 
 import unittest
 
-from darkboard.board import Board
-from darkboard.play import chord as chord_on, deal as deal_on, flag as flag_on
-from tests.lines import begin, board, chord, deal, flag, last, open_, replies, seen
+from tests.lines import begin, board, chord, deal, flag, last, open_, replies, seen, viewed
 
 # The numbers of this game's cells, with its mines; it is dealt at (0, 0):
 #   1 1 0 0 0 0
@@ -27,7 +25,7 @@ class Opens(unittest.TestCase):
     def test_it_spreads(self):
         calls = [*GAME, open_(1, 1), flag(0, 1), flag(0, 2), chord(1, 1)]
         self.assertEqual(last(*calls), 1)
-        self.assertEqual(seen(6, 5, *calls), ["######", "F#####", "F#####", ".#####", "...###"])
+        self.assertEqual(viewed(6, *calls), ["110000", "F20000", "F20000", ".21100", "...100"])
 
     def test_flags_further_away_do_not_count(self):
         calls = [*GAME, flag(0, 1), flag(0, 2), flag(2, 0), flag(2, 1), chord(0, 0)]
@@ -55,11 +53,9 @@ class Loses(unittest.TestCase):
         self.assertEqual(replies(*GAME, open_(1, 2), flag(0, 2), flag(1, 3), chord(1, 2))[3:], [1, 1, 1, 2])
 
     def test_nothing_is_shown(self):
-        played = Board(6, 5, 3)
-        deal_on(played, 7, 0)
-        flag_on(played, 1)
-        self.assertEqual(chord_on(played, 0), 2)
-        self.assertEqual(played.shown, [1] + [9] * 29)
+        calls = [*GAME, flag(1, 0), chord(0, 0)]
+        self.assertEqual(last(*calls), 2)
+        self.assertEqual(viewed(6, *calls), ["1F....", "*.....", "*.....", "......", "..*..."])
 
 
 class Wins(unittest.TestCase):

@@ -5,7 +5,7 @@ import unittest
 from darkboard.board import Board
 from darkboard.chance import Chance
 from darkboard.play import deal as deal_on
-from tests.lines import begin, board, chord, deal, flag, last, mines_of, open_, replies, seen
+from tests.lines import begin, board, chord, deal, flag, last, mines_of, open_, replies, seen, set_, viewed
 
 HIGHEST_SEED = 18446744073709551615
 
@@ -105,10 +105,10 @@ class Refusal(unittest.TestCase):
 
     def test_a_cell_that_is_shown(self):
         for number in range(9):
-            laid = Board(5, 3, 3)
-            laid.shown[14] = number
-            self.assertEqual(deal_on(laid, 0, 7), -1)
-            self.assertEqual((laid.dealt, any(laid.mined), laid.shown.count(9)), (False, False, 14))
+            for x, y in [(4, 2), (2, 1)]:
+                calls = [begin(), board(5, 3, 3), set_(x, y, number), deal(0, 2, 1), open_(0, 0)]
+                self.assertEqual(replies(*calls)[3:], [-1, -2])
+                self.assertEqual(viewed(5, *calls), viewed(5, *calls[:3]))
 
     def test_a_refused_deal_does_not_deal(self):
         calls = [begin(), board(5, 3, 3), deal(0, 5, 1), open_(0, 0), chord(2, 1), deal(0, 2, 1)]

@@ -2,7 +2,7 @@
 
 import unittest
 
-from tests.lines import begin, board, deal, flag, last, open_, replies, seen
+from tests.lines import begin, board, deal, flag, last, open_, replies, seen, set_, viewed
 
 # Drawn in test_open.py: mines at (0, 1), (0, 2) and (2, 4), and (0, 0) is shown.
 GAME = [begin(), board(6, 5, 3), deal(7, 0, 0)]
@@ -19,6 +19,7 @@ class Flag(unittest.TestCase):
         calls = [*GAME, flag(1, 0), flag(0, 1), flag(5, 4), flag(3, 2), flag(0, 1)]
         self.assertEqual(replies(*calls)[3:], [1, 1, 1, 1, 0])
         self.assertEqual(seen(6, 5, *calls), ["#F....", "......", "...F..", "......", ".....F"])
+        self.assertEqual(viewed(6, *calls), ["1F....", "......", "...F..", "......", ".....F"])
 
     def test_more_flags_than_mines(self):
         flags = [flag(x, 3) for x in range(6)]
@@ -40,6 +41,11 @@ class Refusal(unittest.TestCase):
 
     def test_not_dealt(self):
         self.assertEqual(replies(begin(), board(6, 5, 3), flag(0, 1), deal(7, 0, 0), flag(0, 1))[2:], [-2, 1, 1])
+
+    def test_not_dealt_comes_ahead_of_shown(self):
+        calls = [begin(), board(6, 5, 3), set_(1, 1, 2), flag(1, 1), flag(0, 0)]
+        self.assertEqual(replies(*calls)[2:], [0, -2, -2])
+        self.assertEqual(viewed(6, *calls), ["......", ".2....", "......", "......", "......"])
 
     def test_over_comes_ahead_of_shown(self):
         lost = [*GAME, open_(0, 1)]

@@ -1,6 +1,7 @@
 """The package keeps to the small part of Python that it is written in: the rules that can be seen in a file."""
 
 import ast
+import builtins
 import re
 import unittest
 from pathlib import Path
@@ -25,6 +26,13 @@ WORDS = """type typing typing_extensions enum Enum IntEnum StrEnum Flag IntFlag 
     NamedTuple TypedDict TYPE_CHECKING abstractmethod""".split()
 NOT_NAMES = set("register mro elements open input version_info with_traceback add_note format format_map".split())
 
+WALKED_AT_ONCE = set("zip enumerate reversed range items keys values".split())
+WALKERS = set("list tuple dict sorted sum any all enumerate zip min max".split())
+KEYWORDS = {"sorted": {"key", "reverse"}, "min": {"key", "default"}, "max": {"key", "default"}, "sum": {"start"},
+            "enumerate": {"start"}, "zip": {"strict"}}
+FREE_VALUES = set("count index title find get join lower upper split strip copy add".split())
+TAKEN_VALUES = {name for kind in (str, int, list, dict, set, bytes) for name in dir(kind)} - FREE_VALUES
+
 
 def tree_of(path):
     return ast.parse(path.read_text())
@@ -42,6 +50,12 @@ def bound_names(tree):
         elif isinstance(node, ast.alias):
             names.add(node.asname or node.name)
     return names
+
+
+def called_name(node):
+    if not isinstance(node, ast.Call):
+        return None
+    return node.func.attr if isinstance(node.func, ast.Attribute) else getattr(node.func, "id", None)
 
 
 def is_none_test(node):
@@ -126,6 +140,78 @@ class Code(unittest.TestCase):
                     self.assertRegex(node.module, r"^darkboard\.[a-z_]+$", path)
                     defined = bound_names(tree_of(FOLDER / (node.module.split(".")[1] + ".py")))
                     self.assertTrue({alias.name for alias in node.names} <= defined, path)
+
+    def test_the_top_of_a_file(self):
+        for path in FILES:
+            for node in tree_of(path).body:
+                kinds = (ast.Assign, ast.FunctionDef, ast.ClassDef, ast.ImportFrom, ast.Expr)
+                self.assertIsInstance(node, kinds, f"{path}:{node.lineno}")
+                if isinstance(node, ast.Assign):
+                    ast.literal_eval(node.value)
+
+    def test_classes(self):
+        values, methods = set(), set()
+        for path in FILES:
+            tree = tree_of(path)
+            for node in ast.walk(tree):
+                if isinstance(node, ast.Attribute) and isinstance(node.ctx, ast.Store):
+                    values.add(node.attr)
+                if isinstance(node, ast.ClassDef):
+                    self.assertIn(node, tree.body, path)
+                    self.assertEqual(node.decorator_list, [], path)
+                    for part in node.body:
+                        self.assertIsInstance(part, (ast.FunctionDef, ast.Expr, ast.Pass), f"{path}:{part.lineno}")
+                    methods |= {part.name for part in node.body if isinstance(part, ast.FunctionDef)}
+        self.assertEqual(values & (methods | TAKEN_VALUES), set())
+
+    def test_nothing_is_annotated(self):
+        for path in FILES:
+            for node in ast.walk(tree_of(path)):
+                annotation = getattr(node, "annotation", None) or getattr(node, "returns", None)
+                self.assertIsNone(annotation, f"{path}:{getattr(node, 'lineno', '')}")
+
+    def test_comprehensions_and_powers(self):
+        for path in FILES:
+            for node in ast.walk(tree_of(path)):
+                if isinstance(node, ast.ListComp):
+                    self.assertEqual(len(node.generators), 1, f"{path}:{node.lineno}")
+                    self.assertLessEqual(len(node.generators[0].ifs), 1, f"{path}:{node.lineno}")
+                if isinstance(node, ast.BinOp):
+                    self.assertNotIsInstance(node.op, ast.Pow, f"{path}:{node.lineno}")
+
+    def test_keywords(self):
+        for path in FILES:
+            for node in ast.walk(tree_of(path)):
+                if isinstance(node, ast.Call):
+                    allowed = KEYWORDS.get(called_name(node), set())
+                    self.assertLessEqual({word.arg for word in node.keywords}, allowed, f"{path}:{node.lineno}")
+
+    def test_walked_at_once(self):
+        for path in FILES:
+            walked = set()
+            for node in ast.walk(tree_of(path)):
+                if isinstance(node, (ast.For, ast.comprehension)):
+                    walked.add(ast.dump(node.iter, include_attributes=True))
+                if called_name(node) in WALKERS and node.args:
+                    walked.add(ast.dump(node.args[0], include_attributes=True))
+            for node in ast.walk(tree_of(path)):
+                if called_name(node) in WALKED_AT_ONCE:
+                    self.assertIn(ast.dump(node, include_attributes=True), walked, f"{path}:{node.lineno}")
+
+    def test_no_local_is_called_like_an_import_a_class_or_a_name_of_python(self):
+        for path in FILES:
+            tree = tree_of(path)
+            taken = set(dir(builtins))
+            for node in tree.body:
+                if isinstance(node, ast.ImportFrom):
+                    taken |= {alias.name for alias in node.names}
+                if isinstance(node, ast.ClassDef):
+                    taken.add(node.name)
+            for node in ast.walk(tree):
+                if isinstance(node, ast.arg):
+                    self.assertNotIn(node.arg, taken, f"{path}:{node.lineno}")
+                if isinstance(node, ast.Name) and isinstance(node.ctx, ast.Store):
+                    self.assertNotIn(node.id, taken, f"{path}:{node.lineno}")
 
     def test_no_name_is_bound_twice_at_the_top(self):
         for path in FILES:

@@ -3,9 +3,7 @@
 import sys
 import unittest
 
-from darkboard.board import Board
-from darkboard.play import deal as deal_on, open_cell
-from tests.lines import begin, board, chord, deal, flag, last, mines_of, open_, replies, seen
+from tests.lines import begin, board, chord, deal, flag, last, mines_of, open_, replies, seen, viewed
 
 # The numbers of this game's cells, with its mines:
 #   1 1 0 0 0 0
@@ -91,20 +89,14 @@ class Spread(unittest.TestCase):
         self.assertEqual(seen(6, 5, *calls), ["###F##", ".##F##", ".#####", ".#####", "...###"])
 
     def test_what_is_shown(self):
-        played = Board(6, 5, 3)
-        deal_on(played, 7, 0)
-        open_cell(played, 5)
-        self.assertEqual(played.shown, [1, 1, 0, 0, 0, 0,
-                                        9, 2, 0, 0, 0, 0,
-                                        9, 2, 0, 0, 0, 0,
-                                        9, 2, 1, 1, 0, 0,
-                                        9, 9, 9, 1, 0, 0])
+        self.assertEqual(viewed(6, *GAME, open_(5, 0)), ["110000", ".20000", ".20000", ".21100", "...100"])
+        self.assertEqual(viewed(6, *GAME, *FENCE, open_(5, 0)), ["1..F00", "...F00", "...F00", "...100", "...100"])
 
     def test_eight_mines_around_a_cell(self):
         # All but the middle of 3 by 3 are mined.
-        played = Board(3, 3, 8)
-        self.assertEqual(deal_on(played, 0, 4), 3)
-        self.assertEqual(played.shown, [9, 9, 9, 9, 8, 9, 9, 9, 9])
+        calls = [begin(), board(3, 3, 8), deal(0, 1, 1)]
+        self.assertEqual(last(*calls), 3)
+        self.assertEqual(viewed(3, *calls), ["...", ".8.", "..."])
 
     def test_the_largest_board_in_few_nested_calls(self):
         limit = sys.getrecursionlimit()
@@ -144,11 +136,9 @@ class NotInPlay(unittest.TestCase):
             self.assertEqual(replies(*start, flag(0, 1), flag(0, 0), chord(0, 0), chord(0, 1))[-4:], [-2] * 4)
 
     def test_nothing_is_shown_where_it_is_lost(self):
-        played = Board(6, 5, 3)
-        deal_on(played, 7, 0)
-        shown = list(played.shown)
-        self.assertEqual(open_cell(played, 6), 2)
-        self.assertEqual(played.shown, shown)
+        calls = [*GAME, open_(0, 1)]
+        self.assertEqual(last(*calls), 2)
+        self.assertEqual(viewed(6, *calls), ["1.....", "*.....", "*.....", "......", "..*..."])
 
 
 if __name__ == "__main__":
